@@ -1,0 +1,1 @@
+"""Keys sealed by lattices."""
