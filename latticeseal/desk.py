@@ -1,4 +1,4 @@
-"""The calls of the program, and the sums that they stand on."""
+"""The calls of the program, and the sums and polynomials that they stand on."""
 
 # The most bytes that a message or a sum may have.
 MOST_BYTES = 16777216
@@ -29,6 +29,26 @@ CONSTANTS = (
     0x8000000000008002, 0x8000000000000080, 0x000000000000800A, 0x800000008000000A,
     0x8000000080008081, 0x8000000000008080, 0x0000000080000001, 0x8000000080008008,
 )
+
+# The numbers of a polynomial are modulo this one.
+PRIME = 3329
+
+# 17 to the seven bits of i the other way round, for each i from 0 to 127.
+POWERS = (
+    1, 1729, 2580, 3289, 2642, 630, 1897, 848, 1062, 1919, 193, 797, 2786, 3260, 569, 1746,
+    296, 2447, 1339, 1476, 3046, 56, 2240, 1333, 1426, 2094, 535, 2882, 2393, 2879, 1974, 821,
+    289, 331, 3253, 1756, 1197, 2304, 2277, 2055, 650, 1977, 2513, 632, 2865, 33, 1320, 1915,
+    2319, 1435, 807, 452, 1438, 2868, 1534, 2402, 2647, 2617, 1481, 648, 2474, 3110, 1227, 910,
+    17, 2761, 583, 2649, 1637, 723, 2288, 1100, 1409, 2662, 3281, 233, 756, 2156, 3015, 3050,
+    1703, 1651, 2789, 1789, 1847, 952, 1461, 2687, 939, 2308, 2437, 2388, 733, 2337, 268, 641,
+    1584, 2298, 2037, 3220, 375, 2549, 2090, 1645, 1063, 319, 2773, 757, 2099, 561, 2466, 2594,
+    2804, 1092, 403, 1026, 1143, 2150, 2775, 886, 1722, 1212, 1874, 1029, 2110, 2935, 885, 2154,
+)
+
+KINDS = (2, 3, 4)
+
+# By kind: the e of its noise.
+NOISE_SIZES = {2: 3, 3: 2, 4: 2}
 
 
 def turned(word, places):
@@ -113,6 +133,130 @@ def sum_of(message, rate, mark, length):
     return answer[:length]
 
 
+def sum_by(which, message, length):
+    """The sum of a message by the rate and the mark of which."""
+    return sum_of(message, RATES[which], MARKS[which], length)
+
+
+def h_of(message):
+    """The 32 bytes that the document calls H."""
+    return sum_by(0, message, 32)
+
+
+def g_of(message):
+    """The 64 bytes that the document calls G."""
+    return sum_by(1, message, 64)
+
+
+def added(first, second):
+    """The sum of two polynomials."""
+    return [(a + b) % PRIME for a, b in zip(first, second)]
+
+
+def transformed(numbers):
+    """A polynomial transformed."""
+    answer = numbers
+    for half in (128, 64, 32, 16, 8, 4, 2):
+        runs = answer
+        answer = []
+        for b in range(128 // half):
+            start = 2 * half * b
+            power = POWERS[128 // half + b]
+            first = runs[start:start + half]
+            second = [power * c for c in runs[start + half:start + 2 * half]]
+            answer.extend([(a + c) % PRIME for a, c in zip(first, second)])
+            answer.extend([(a - c) % PRIME for a, c in zip(first, second)])
+    return answer
+
+
+def product(first, second):
+    """The product of two transformed polynomials, transformed."""
+    answer = []
+    for i in range(128):
+        a0 = first[2 * i]
+        a1 = first[2 * i + 1]
+        b0 = second[2 * i]
+        b1 = second[2 * i + 1]
+        # 17 to twice the bits and 1: the power of the bits by itself, once more 17.
+        square = POWERS[i] * POWERS[i] * 17
+        answer.append((a0 * b0 + a1 * b1 * square) % PRIME)
+        answer.append((a0 * b1 + a1 * b0) % PRIME)
+    return answer
+
+
+def dot(firsts, seconds):
+    """The sum of the products of two lists of transformed polynomials."""
+    total = [0] * 256
+    for first, second in zip(firsts, seconds):
+        total = added(total, product(first, second))
+    return total
+
+
+def regrouped(parts, size, new_size):
+    """The bits of numbers of one size, the lowest first, as numbers of another size."""
+    answer = []
+    held = 0
+    count = 0
+    for part in parts:
+        held = held | (part << count)
+        count = count + size
+        while count >= new_size:
+            answer.append(held & ((1 << new_size) - 1))
+            held = held >> new_size
+            count = count - new_size
+    return answer
+
+
+def in_bits(polynomials, size):
+    """The bytes of polynomials whose numbers take size bits each."""
+    answer = []
+    for numbers in polynomials:
+        answer.extend(regrouped(numbers, size, 8))
+    return answer
+
+
+def fitting(data):
+    """The numbers below 3329 among those that every three bytes make."""
+    answer = []
+    for start in range(0, len(data), 3):
+        middle = data[start + 1]
+        low = data[start] + 256 * (middle % 16)
+        high = middle // 16 + 16 * data[start + 2]
+        answer.extend([number for number in (low, high) if number < PRIME])
+    return answer
+
+
+def uniform(seed):
+    """The uniform polynomial of 34 bytes."""
+    # A short sum is the beginning of a longer one. Its numbers nearly always suffice, in a sixth of the time.
+    numbers = fitting(sum_by(2, seed, 504))
+    if len(numbers) < 256:
+        numbers = fitting(sum_by(2, seed, 3024))
+    return (numbers + [0] * 256)[:256]
+
+
+def row_of(rho, kind, i):
+    """The uniform polynomials A(i, 0), A(i, 1) and so on."""
+    return [uniform(rho + [j, i]) for j in range(kind)]
+
+
+def small(e, data):
+    """The small polynomial of 64e bytes."""
+    bits = regrouped(data, 8, 1)
+    sums = [sum(bits[start:start + e]) for start in range(0, 512 * e, e)]
+    return [(a - b) % PRIME for a, b in zip(sums[0::2], sums[1::2])]
+
+
+def noise(e, seed, n):
+    """The small polynomial that is number n of a seed."""
+    return small(e, sum_by(3, seed + [n], 64 * e))
+
+
+def transformed_noises(kind, seed, first):
+    """As many polynomials of noise as the kind has, from number first on, transformed."""
+    return [transformed(noise(NOISE_SIZES[kind], seed, first + i)) for i in range(kind)]
+
+
 def km_sum(which, length, m):
     """Promise 1: 0 and the bytes of the sum of m, or -1 alone."""
     if which < 0 or which > 3:
@@ -120,4 +264,19 @@ def km_sum(which, length, m):
     if length < 0 or length > MOST_BYTES or len(m) > MOST_BYTES:
         return [-1]
     wanted = FIXED_LENGTHS[which] if which < 2 else length
-    return [0] + sum_of(m, RATES[which], MARKS[which], wanted)
+    return [0] + sum_by(which, m, wanted)
+
+
+def km_keys(kind, d, z):
+    """Promise 2: 0, the bytes of the open key and those of the secret one, or -1 alone."""
+    if kind not in KINDS:
+        return [-1]
+    both = g_of(d + [kind])
+    rho = both[:32]
+    seed = both[32:]
+    own = transformed_noises(kind, seed, 0)
+    errors = transformed_noises(kind, seed, kind)
+    shown = [added(dot(row_of(rho, kind, i), own), errors[i]) for i in range(kind)]
+    openkey = in_bits(shown, 12) + rho
+    secret = in_bits(own, 12) + openkey + h_of(openkey) + z
+    return [0] + openkey + secret

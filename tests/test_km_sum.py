@@ -1,24 +1,15 @@
 """Promise 1: km_sum."""
 
-import contextlib
 import hashlib
 import inspect
-import io
-import sys
 import unittest
 
+from helper import LARGEST, SMALLEST, Watched, message_of, seen_beside_the_answer
 from latticeseal.desk import km_sum
 
 RATES = (136, 72, 168, 136)
 FIXED_LENGTHS = (32, 64)
-SMALLEST = -2147483648
-LARGEST = 2147483647
 ABC = [97, 98, 99]
-
-
-def message_of(count):
-    """Bytes in which every value and no short period occurs."""
-    return [(n * n + 7 * n + n // 256) % 256 for n in range(count)]
 
 
 def known_sum(which, length, m):
@@ -30,27 +21,6 @@ def known_sum(which, length, m):
     if which == 2:
         return list(hashlib.shake_128(data).digest(length))
     return list(hashlib.shake_256(data).digest(length))
-
-
-class Watched(list):
-    """A list that refuses to be changed, even for a while."""
-
-    def refuse(self, *args, **kwargs):
-        raise AssertionError("what is handed in was changed")
-
-    __setitem__ = __delitem__ = __iadd__ = __imul__ = refuse
-    append = extend = insert = pop = remove = clear = sort = reverse = refuse
-
-
-AUDITED = {"on": False, "events": []}
-
-
-def audit(event, args):
-    if AUDITED["on"]:
-        AUDITED["events"].append(event)
-
-
-sys.addaudithook(audit)
 
 
 class SumCase(unittest.TestCase):
@@ -188,16 +158,8 @@ class TheCall(unittest.TestCase):
         self.assertEqual(forth, back[::-1])
 
     def test_nothing_is_printed_read_or_imported(self):
-        printed = io.StringIO()
-        modules = set(sys.modules)
-        with contextlib.redirect_stdout(printed), contextlib.redirect_stderr(printed):
-            AUDITED["on"] = True
-            for which, length, m in self.CALLS:
-                km_sum(which, length, m)
-            AUDITED["on"] = False
-        self.assertEqual(printed.getvalue(), "")
-        self.assertEqual(AUDITED["events"], [])
-        self.assertEqual(set(sys.modules), modules)
+        for call in self.CALLS:
+            self.assertEqual(seen_beside_the_answer(km_sum, call), ("", [], set()))
 
 
 if __name__ == "__main__":

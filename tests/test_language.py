@@ -58,6 +58,30 @@ class Language(unittest.TestCase):
             self.assertLessEqual(len(rows), 400, path.name)
             self.assertLessEqual(max(len(row) for row in rows), 120, path.name)
 
+    def test_the_top_of_a_module(self):
+        for path in files():
+            bound = []
+            body = ast.parse(path.read_text(encoding="utf-8")).body
+            for node in body:
+                place = (path.name, node.lineno)
+                self.assertIsInstance(node, (ast.Expr, ast.ImportFrom, ast.FunctionDef, ast.Assign), place)
+                if isinstance(node, ast.Expr):
+                    self.assertIs(node, body[0], place)
+                    self.assertIsInstance(ast.literal_eval(node.value), str, place)
+                if isinstance(node, ast.Assign):
+                    self.assert_plain(ast.literal_eval(node.value), place)
+                    bound.append(node.targets[0].id)
+                if isinstance(node, ast.FunctionDef):
+                    bound.append(node.name)
+            self.assertEqual(len(bound), len(set(bound)), path.name)
+
+    def assert_plain(self, value, place):
+        """A value that a module's top may have: within a list or a dict stand no others."""
+        inner = list(value.values()) if isinstance(value, dict) else value if isinstance(value, (list, tuple)) else []
+        for each in inner:
+            self.assertNotIsInstance(each, (list, dict, set), place)
+            self.assert_plain(each, place)
+
     def test_functions(self):
         for name, node in nodes():
             if isinstance(node, ast.FunctionDef):
@@ -77,11 +101,15 @@ class Language(unittest.TestCase):
                 self.assertEqual(node.finalbody, [], place)
             if isinstance(node, ast.Assign):
                 self.assertEqual(len(node.targets), 1, place)
+                self.assertNotIsInstance(node.targets[0], (ast.Tuple, ast.List), place)
+            if isinstance(node, ast.BinOp) and isinstance(node.op, ast.Pow):
+                self.assertIsInstance(node.right, ast.Constant, place)
             if isinstance(node, ast.ListComp):
                 self.assertEqual(len(node.generators), 1, place)
                 self.assertLessEqual(len(node.generators[0].ifs), 1, place)
             if isinstance(node, ast.Constant):
                 self.assertNotIsInstance(node.value, (float, complex, bytes), place)
+                self.assertNotIn("%", str(node.value), place)
 
     def test_names(self):
         for name, node in nodes():
