@@ -47,8 +47,10 @@ POWERS = (
 
 KINDS = (2, 3, 4)
 
-# By kind: the e of its noise.
+# By kind: the e of its noise; u and v, the bits that a number of a seal takes.
 NOISE_SIZES = {2: 3, 3: 2, 4: 2}
+U_SIZES = {2: 10, 3: 10, 4: 11}
+V_SIZES = {2: 4, 3: 4, 4: 5}
 
 
 def turned(word, places):
@@ -169,6 +171,23 @@ def transformed(numbers):
     return answer
 
 
+def back(numbers):
+    """What a transformed polynomial was before."""
+    answer = numbers
+    for half in (2, 4, 8, 16, 32, 64, 128):
+        runs = answer
+        answer = []
+        for b in range(128 // half):
+            start = 2 * half * b
+            power = POWERS[256 // half - 1 - b]
+            first = runs[start:start + half]
+            second = runs[start + half:start + 2 * half]
+            answer.extend([(a + c) % PRIME for a, c in zip(first, second)])
+            answer.extend([power * (c - a) % PRIME for a, c in zip(first, second)])
+    # Each of the seven rounds has doubled the numbers, and 128 times 3303 is 1.
+    return [3303 * number % PRIME for number in answer]
+
+
 def product(first, second):
     """The product of two transformed polynomials, transformed."""
     answer = []
@@ -215,6 +234,31 @@ def in_bits(polynomials, size):
     return answer
 
 
+def read(data, size):
+    """The polynomials that bytes hold, whose numbers take size bits each."""
+    # With less than 12 bits every number is below 3329 as it stands.
+    numbers = [number % PRIME for number in regrouped(data, 8, size)]
+    return [numbers[start:start + 256] for start in range(0, len(numbers), 256)]
+
+
+def squeezed(polynomials, size):
+    """The bytes of polynomials squeezed to size bits."""
+    scale = 1 << size
+    answer = []
+    for numbers in polynomials:
+        answer.append([(2 * scale * number + PRIME) // (2 * PRIME) % scale for number in numbers])
+    return in_bits(answer, size)
+
+
+def widened(data, size):
+    """The polynomials that bytes hold, widened from size bits."""
+    scale = 1 << size
+    answer = []
+    for numbers in read(data, size):
+        answer.append([(2 * PRIME * number + scale) // (2 * scale) for number in numbers])
+    return answer
+
+
 def fitting(data):
     """The numbers below 3329 among those that every three bytes make."""
     answer = []
@@ -240,6 +284,11 @@ def row_of(rho, kind, i):
     return [uniform(rho + [j, i]) for j in range(kind)]
 
 
+def column_of(rho, kind, i):
+    """The uniform polynomials A(0, i), A(1, i) and so on."""
+    return [uniform(rho + [i, j]) for j in range(kind)]
+
+
 def small(e, data):
     """The small polynomial of 64e bytes."""
     bits = regrouped(data, 8, 1)
@@ -255,6 +304,20 @@ def noise(e, seed, n):
 def transformed_noises(kind, seed, first):
     """As many polynomials of noise as the kind has, from number first on, transformed."""
     return [transformed(noise(NOISE_SIZES[kind], seed, first + i)) for i in range(kind)]
+
+
+def sealed(kind, openkey, m, seed):
+    """The bytes of a message, sealed with a seed by an open key."""
+    shown = read(openkey[:384 * kind], 12)
+    rho = openkey[384 * kind:]
+    hidden = transformed_noises(kind, seed, 0)
+    firsts = []
+    for i in range(kind):
+        plain = back(dot(column_of(rho, kind, i), hidden))
+        firsts.append(added(plain, noise(2, seed, kind + i)))
+    last = added(back(dot(shown, hidden)), noise(2, seed, 2 * kind))
+    last = added(last, widened(m, 1)[0])
+    return squeezed(firsts, U_SIZES[kind]) + squeezed([last], V_SIZES[kind])
 
 
 def km_sum(which, length, m):
@@ -280,3 +343,14 @@ def km_keys(kind, d, z):
     openkey = in_bits(shown, 12) + rho
     secret = in_bits(own, 12) + openkey + h_of(openkey) + z
     return [0] + openkey + secret
+
+
+def km_seal(kind, openkey, m):
+    """Promise 3: 0, the bytes of the seal and those of the key that's sealed, or -1 or -2 alone."""
+    if kind not in KINDS:
+        return [-1]
+    shown = openkey[:384 * kind]
+    if in_bits(read(shown, 12), 12) != shown:
+        return [-2]
+    both = g_of(m + h_of(openkey))
+    return [0] + sealed(kind, openkey, m, both[32:]) + both[:32]

@@ -1,13 +1,17 @@
-"""What several tests need: inputs, a watch over calls, and the document's rules written a second time.
+"""What several tests need: inputs, what holds for every call, and the document's rules written a second time.
 
 The rules here take other ways than the program does: the sums are hashlib's, bits are cut out of one great
 number, and a polynomial is transformed by taking its remainders.
 """
 
 import contextlib
+import copy
 import hashlib
+import inspect
 import io
+import math
 import sys
+from fractions import Fraction
 
 SMALLEST = -2147483648
 LARGEST = 2147483647
@@ -17,6 +21,8 @@ NO_KINDS = (SMALLEST, SMALLEST + 1, -4, -3, -2, -1, 0, 1, 5, 6, 258, LARGEST - 1
 
 PRIME = 3329
 NOISE_SIZES = {2: 3, 3: 2, 4: 2}
+U_SIZES = {2: 10, 3: 10, 4: 11}
+V_SIZES = {2: 4, 3: 4, 4: 5}
 
 
 def message_of(count, first=0):
@@ -59,6 +65,49 @@ def seen_beside_the_answer(function, call):
     return printed.getvalue(), list(AUDITED["events"]), set(sys.modules) - modules
 
 
+class EveryCall:
+    """What holds for every call: a test case has its function, the names of its parameters, and some calls of it."""
+
+    def test_the_names_of_what_is_handed_in(self):
+        self.assertEqual(list(inspect.signature(self.function).parameters), self.names)
+
+    def test_one_list_of_whole_numbers(self):
+        for call in self.calls:
+            answer = self.function(*call)
+            self.assertIs(type(answer), list)
+            self.assertEqual({type(number) for number in answer}, {int})
+            self.assertTrue(answer[0] == 0 or len(answer) == 1)
+            self.assertTrue(all(0 <= number <= 255 for number in answer[1:]))
+
+    def test_what_is_handed_in_is_not_changed(self):
+        for call in self.calls:
+            before = copy.deepcopy(call)
+            answer = self.function(*call)
+            self.assertEqual(call, before)
+            watched = [Watched(each) if isinstance(each, list) else each for each in call]
+            self.assertEqual(self.function(*watched), answer)
+
+    def test_the_answer_is_a_list_of_its_own(self):
+        for call in self.calls:
+            before = copy.deepcopy(call)
+            answer = self.function(*call)
+            kept = list(answer)
+            for place in range(len(answer)):
+                answer[place] = 77
+            answer.append(88)
+            self.assertEqual(call, before)
+            self.assertEqual(self.function(*call), kept)
+
+    def test_nothing_is_kept_between_calls(self):
+        forth = [self.function(*call) for call in self.calls]
+        back = [self.function(*call) for call in reversed(self.calls)]
+        self.assertEqual(forth, back[::-1])
+
+    def test_nothing_is_printed_read_or_imported(self):
+        for call in self.calls:
+            self.assertEqual(seen_beside_the_answer(self.function, call), ("", [], set()))
+
+
 def h_of(data):
     return list(hashlib.sha3_256(bytes(data)).digest())
 
@@ -83,6 +132,16 @@ def remainders(numbers):
         pairs.append(sum(a * power for a, power in zip(numbers[0::2], powers)) % PRIME)
         pairs.append(sum(a * power for a, power in zip(numbers[1::2], powers)) % PRIME)
     return pairs
+
+
+def from_remainders(pairs):
+    """The polynomial that has these remainders."""
+    answer = []
+    for j in range(128):
+        for part in (pairs[0::2], pairs[1::2]):
+            total = sum(number * pow(square, -j, PRIME) for number, square in zip(part, SQUARES))
+            answer.append(total * pow(128, -1, PRIME) % PRIME)
+    return answer
 
 
 def multiplied(first, second):
@@ -127,6 +186,18 @@ def numbers_of(data, size):
     return [numbers[start:start + 256] for start in range(0, len(numbers), 256)]
 
 
+def nearest(number):
+    return math.floor(number + Fraction(1, 2))
+
+
+def squeezed_number(number, size):
+    return nearest(Fraction(2 ** size, PRIME) * number) % 2 ** size
+
+
+def widened_number(number, size):
+    return nearest(Fraction(PRIME, 2 ** size) * number)
+
+
 def uniform_of(seed):
     data = hashlib.shake_128(bytes(seed)).digest(3024)
     numbers = numbers_of(data, 12)
@@ -151,3 +222,23 @@ def keys_of(kind, d, z):
         shown.append(plus(dot_of(row, own), remainders(noise_of(e, seed, kind + i))))
     openkey = bytes_of(sum(shown, []), 12) + rho
     return openkey, bytes_of(sum(own, []), 12) + openkey + h_of(openkey) + z
+
+
+def seal_of(kind, openkey, m, seed):
+    """A message sealed with a seed."""
+    shown = [[number % PRIME for number in part] for part in numbers_of(openkey[:384 * kind], 12)]
+    rho = openkey[384 * kind:]
+    hidden = [remainders(noise_of(NOISE_SIZES[kind], seed, i)) for i in range(kind)]
+    seal = []
+    for i in range(kind):
+        column = [uniform_of(rho + [i, j]) for j in range(kind)]
+        part = plus(from_remainders(dot_of(column, hidden)), noise_of(2, seed, kind + i))
+        seal += bytes_of([squeezed_number(number, U_SIZES[kind]) for number in part], U_SIZES[kind])
+    message = [1665 * bit for bit in numbers_of(m, 1)[0]]
+    part = plus(from_remainders(dot_of(shown, hidden)), noise_of(2, seed, 2 * kind), message)
+    return seal + bytes_of([squeezed_number(number, V_SIZES[kind]) for number in part], V_SIZES[kind])
+
+
+def seal_and_key_of(kind, openkey, m):
+    both = g_of(m + h_of(openkey))
+    return seal_of(kind, openkey, m, both[32:]), both[:32]

@@ -1,9 +1,8 @@
 """Promise 2: km_keys."""
 
-import inspect
 import unittest
 
-from helper import KINDS, NO_KINDS, Watched, h_of, keys_of, message_of, seen_beside_the_answer
+from helper import KINDS, NO_KINDS, EveryCall, h_of, keys_of, message_of
 from latticeseal.desk import km_keys
 
 SEEDS = (
@@ -72,41 +71,10 @@ class Refusals(unittest.TestCase):
                 self.assertEqual(km_keys(kind, d, z), [-1])
 
 
-class TheCall(unittest.TestCase):
-    def test_the_names_of_what_is_handed_in(self):
-        self.assertEqual(list(inspect.signature(km_keys).parameters), ["kind", "d", "z"])
-
-    def test_one_list_of_whole_numbers(self):
-        for call in CALLS:
-            answer = km_keys(*call)
-            self.assertIs(type(answer), list)
-            self.assertEqual({type(number) for number in answer}, {int})
-
-    def test_what_is_handed_in_is_not_changed(self):
-        for kind, d, z in CALLS:
-            before = list(d), list(z)
-            answer = km_keys(kind, d, z)
-            self.assertEqual((d, z), before)
-            self.assertEqual(km_keys(kind, Watched(d), Watched(z)), answer)
-
-    def test_the_answer_is_a_list_of_its_own(self):
-        for kind, d, z in CALLS:
-            before = list(d), list(z)
-            answer = km_keys(kind, d, z)
-            kept = list(answer)
-            for place in range(len(answer)):
-                answer[place] = 77
-            self.assertEqual((d, z), before)
-            self.assertEqual(km_keys(kind, d, z), kept)
-
-    def test_nothing_is_kept_between_calls(self):
-        forth = [km_keys(*call) for call in CALLS]
-        back = [km_keys(*call) for call in reversed(CALLS)]
-        self.assertEqual(forth, back[::-1])
-
-    def test_nothing_is_printed_read_or_imported(self):
-        for call in CALLS:
-            self.assertEqual(seen_beside_the_answer(km_keys, call), ("", [], set()))
+class TheCall(EveryCall, unittest.TestCase):
+    function = staticmethod(km_keys)
+    names = ["kind", "d", "z"]
+    calls = CALLS
 
 
 if __name__ == "__main__":

@@ -1,10 +1,9 @@
 """Promise 1: km_sum."""
 
 import hashlib
-import inspect
 import unittest
 
-from helper import LARGEST, SMALLEST, Watched, message_of, seen_beside_the_answer
+from helper import LARGEST, SMALLEST, EveryCall, message_of
 from latticeseal.desk import km_sum
 
 RATES = (136, 72, 168, 136)
@@ -121,45 +120,11 @@ class Refusals(unittest.TestCase):
             self.assertEqual(km_sum(which, 32, m), [-1])
 
 
-class TheCall(unittest.TestCase):
-    CALLS = ((0, 5, ABC), (1, 5, []), (2, 400, message_of(400)), (3, 400, message_of(135)),
+class TheCall(EveryCall, unittest.TestCase):
+    function = staticmethod(km_sum)
+    names = ["which", "length", "m"]
+    calls = ((0, 5, ABC), (1, 5, []), (2, 400, message_of(400)), (3, 400, message_of(135)),
              (4, 5, ABC), (0, -1, ABC), (2, 0, []))
-
-    def test_the_names_of_what_is_handed_in(self):
-        self.assertEqual(list(inspect.signature(km_sum).parameters), ["which", "length", "m"])
-
-    def test_one_list_of_whole_numbers(self):
-        for which, length, m in self.CALLS:
-            answer = km_sum(which, length, m)
-            self.assertIs(type(answer), list)
-            self.assertEqual({type(number) for number in answer}, {int})
-            self.assertTrue(all(0 <= number <= 255 for number in answer[1:]))
-
-    def test_what_is_handed_in_is_not_changed(self):
-        for which, length, m in self.CALLS:
-            before = list(m)
-            km_sum(which, length, m)
-            self.assertEqual(m, before)
-            km_sum(which, length, Watched(m))
-
-    def test_the_answer_is_a_list_of_its_own(self):
-        for which, length, m in self.CALLS:
-            handed_in = list(m)
-            answer = km_sum(which, length, handed_in)
-            kept = list(answer)
-            answer.append(77)
-            answer[0] = 88
-            self.assertEqual(handed_in, m)
-            self.assertEqual(km_sum(which, length, handed_in), kept)
-
-    def test_nothing_is_kept_between_calls(self):
-        forth = [km_sum(*call) for call in self.CALLS]
-        back = [km_sum(*call) for call in reversed(self.CALLS)]
-        self.assertEqual(forth, back[::-1])
-
-    def test_nothing_is_printed_read_or_imported(self):
-        for call in self.CALLS:
-            self.assertEqual(seen_beside_the_answer(km_sum, call), ("", [], set()))
 
 
 if __name__ == "__main__":

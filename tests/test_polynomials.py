@@ -27,10 +27,16 @@ class Transforms(unittest.TestCase):
         for numbers in POLYNOMIALS:
             self.assertEqual(desk.transformed(numbers), helper.remainders(numbers))
 
+    def test_back_is_the_polynomial_of_the_remainders(self):
+        for numbers in POLYNOMIALS:
+            self.assertEqual(desk.back(numbers), helper.from_remainders(numbers))
+            self.assertEqual(desk.back(helper.remainders(numbers)), numbers)
+
     def test_what_is_transformed_stays(self):
         for numbers in POLYNOMIALS:
             before = list(numbers)
             desk.transformed(helper.Watched(numbers))
+            desk.back(helper.Watched(numbers))
             self.assertEqual(numbers, before)
 
 
@@ -72,6 +78,53 @@ class Bits(unittest.TestCase):
                 got = desk.in_bits(polynomials, size)
                 self.assertEqual(len(got), 32 * size * len(polynomials))
                 self.assertEqual(got, helper.bytes_of(sum(polynomials, []), size))
+
+    def test_read_in_any_size(self):
+        for size in (1, 4, 5, 10, 11, 12):
+            for count in (1, 2, 4):
+                for data in (helper.message_of(32 * size * count), [255] * (32 * size * count)):
+                    wanted = [[number % 3329 for number in part] for part in helper.numbers_of(data, size)]
+                    self.assertEqual(desk.read(data, size), wanted)
+
+    def test_12_bits_are_read_modulo_3329(self):
+        data = helper.bytes_of([3328, 3329, 3330, 4095] + [0] * 252, 12)
+        self.assertEqual(desk.read(data, 12), [[3328, 0, 1, 766] + [0] * 252])
+
+
+class Sizes(unittest.TestCase):
+    SIZES = (1, 4, 5, 10, 11)
+
+    def test_every_number_squeezed(self):
+        for size in self.SIZES:
+            for start in range(0, 3329, 256):
+                numbers = [min(start + n, 3328) for n in range(256)]
+                wanted = helper.bytes_of([helper.squeezed_number(number, size) for number in numbers], size)
+                self.assertEqual(desk.squeezed([numbers], size), wanted)
+
+    def test_every_number_widened(self):
+        for size in self.SIZES:
+            for start in range(0, 2 ** size, 256):
+                numbers = [(start + n) % 2 ** size for n in range(256)]
+                wanted = [helper.widened_number(number, size) for number in numbers]
+                self.assertEqual(desk.widened(helper.bytes_of(numbers, size), size), [wanted])
+
+    def test_written_edges(self):
+        # To 1 bit: 1 from a quarter of 3329 to three quarters of it.
+        numbers = [0, 832, 833, 1664, 1665, 2496, 2497, 3328] * 32
+        self.assertEqual(desk.squeezed([numbers], 1), helper.bytes_of([0, 0, 1, 1, 1, 1, 0, 0] * 32, 1))
+        # The nearest to 3328 is 2 to the size, which is 0.
+        self.assertEqual(desk.squeezed([[3328] * 256], 4), [0] * 128)
+        # A half goes up: 3329 / 2 is 1664 and a half.
+        self.assertEqual(desk.widened([255] * 32, 1), [[1665] * 256])
+        self.assertEqual(desk.widened([0x88] * 128, 4), [[1665] * 256])
+
+    def test_several_polynomials(self):
+        for size in self.SIZES:
+            numbers = [[(n * n + m) % 3329 for n in range(256)] for m in range(3)]
+            got = desk.squeezed(numbers, size)
+            self.assertEqual(got, sum([desk.squeezed([part], size) for part in numbers], []))
+            self.assertEqual(desk.widened(got, size), sum([desk.widened(desk.squeezed([part], size), size)
+                                                           for part in numbers], []))
 
 
 class Uniform(unittest.TestCase):
