@@ -320,6 +320,15 @@ def sealed(kind, openkey, m, seed):
     return squeezed(firsts, U_SIZES[kind]) + squeezed([last], V_SIZES[kind])
 
 
+def unsealed(kind, own, seal):
+    """The bytes of the message in a seal, by the bytes of a secret key's own polynomials."""
+    size = 32 * U_SIZES[kind] * kind
+    firsts = [transformed(numbers) for numbers in widened(seal[:size], U_SIZES[kind])]
+    last = widened(seal[size:], V_SIZES[kind])[0]
+    taken = back(dot(read(own, 12), firsts))
+    return squeezed([[(a - b) % PRIME for a, b in zip(last, taken)]], 1)
+
+
 def km_sum(which, length, m):
     """Promise 1: 0 and the bytes of the sum of m, or -1 alone."""
     if which < 0 or which > 3:
@@ -354,3 +363,21 @@ def km_seal(kind, openkey, m):
         return [-2]
     both = g_of(m + h_of(openkey))
     return [0] + sealed(kind, openkey, m, both[32:]) + both[:32]
+
+
+def km_open(kind, secret, seal):
+    """Promise 4: 0 and the bytes of the key that a seal holds, or -1 or -2 alone."""
+    if kind not in KINDS:
+        return [-1]
+    own = secret[:384 * kind]
+    openkey = secret[384 * kind:768 * kind + 32]
+    sum_there = secret[768 * kind + 32:768 * kind + 64]
+    z = secret[768 * kind + 64:]
+    if h_of(openkey) != sum_there:
+        return [-2]
+    m = unsealed(kind, own, seal)
+    both = g_of(m + sum_there)
+    if sealed(kind, openkey, m, both[32:]) == seal:
+        return [0] + both[:32]
+    # A seal that wasn't made this way gets a key too, so that the answer doesn't tell what was wrong with it.
+    return [0] + sum_by(3, z + seal, 32)

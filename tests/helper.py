@@ -242,3 +242,17 @@ def seal_of(kind, openkey, m, seed):
 def seal_and_key_of(kind, openkey, m):
     both = g_of(m + h_of(openkey))
     return seal_of(kind, openkey, m, both[32:]), both[:32]
+
+
+def message_in(kind, own, seal):
+    """A seal unsealed."""
+    size = 32 * U_SIZES[kind] * kind
+    firsts = [[widened_number(number, U_SIZES[kind]) for number in part]
+              for part in numbers_of(seal[:size], U_SIZES[kind])]
+    last = [widened_number(number, V_SIZES[kind]) for number in numbers_of(seal[size:], V_SIZES[kind])[0]]
+    taken = from_remainders(dot_of(numbers_of(own, 12), [remainders(part) for part in firsts]))
+    return bytes_of([squeezed_number((a - b) % PRIME, 1) for a, b in zip(last, taken)], 1)
+
+
+def j_of(data):
+    return list(hashlib.shake_256(bytes(data)).digest(32))
